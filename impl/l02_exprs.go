@@ -225,14 +225,14 @@ func sumOf(args []Val) (Val, bool) { return added(args[0], args[1], 1) }
 
 func differenceOf(args []Val) (Val, bool) { return added(args[0], args[1], -1) }
 
-// added asks for nulls first: with one of them nothing is added, so a text
-// beside it does no harm.
+// added asks for texts ahead of nulls: a text can not be added at all, so a
+// null beside it does not excuse it.
 func added(a Val, b Val, sign int64) (Val, bool) {
+	if a.Kind == VText || b.Kind == VText {
+		return Val{}, false
+	}
 	if a.Kind == VNull || b.Kind == VNull {
 		return Val{}, true
-	}
-	if a.Kind != VInt || b.Kind != VInt {
-		return Val{}, false
 	}
 	sum := number(a.N + sign*b.N)
 	if !sum.right() {

@@ -228,10 +228,13 @@ func opOf(kind int64, a impl.Val, b impl.Val) (impl.Val, bool) {
 		return num(truth), true
 	}
 	sum := func(n int64) (impl.Val, bool) {
+		if a.Kind == impl.VText || b.Kind == impl.VText {
+			return impl.Val{}, false
+		}
 		if a.Kind == impl.VNull || b.Kind == impl.VNull {
 			return impl.Val{}, true
 		}
-		if a.Kind == impl.VText || b.Kind == impl.VText || n < -impl.MaxNum || n > impl.MaxNum {
+		if n < -impl.MaxNum || n > impl.MaxNum {
 			return impl.Val{}, false
 		}
 		return num(n), true
@@ -344,13 +347,60 @@ func TestSumsAtTheLimits(t *testing.T) {
 		// A number that is not right on the way is told, too.
 		"1000000000 1 + 1 -": "", "-1000000000 1 - 1 +": "", "1000000000 1 + isnull": "", "1000000000 1 + null +": "",
 		// Nothing is added where one is a null.
-		"null 1000000000 +": "null", "null null -": "null", "1 null -": "null", "null 'a' +": "null", "'a' null -": "null",
+		"null 1000000000 +": "null", "null null -": "null", "1 null -": "null",
 		"'a' 1 +": "", "1 'a' +": "", "'a' 1 -": "", "1 'a' -": "", "'1' '1' +": "", "'' '' -": "",
 	} {
 		v, ok := impl.Eval(read(t, s), nil)
 		if ok != (want != "") || ok && impl.ValText(v) != want || !ok && v != (impl.Val{}) {
 			t.Errorf("%s: %#v, %v, want %q", s, v, ok, want)
 		}
+	}
+}
+
+// TestTextsAddedOrTakenOff: a text makes it false whatever stands on the other
+// side, in constants and in columns, and whatever stands around it.
+func TestTextsAddedOrTakenOff(t *testing.T) {
+	around := []string{"", " isnull", " not", " null +", " null =", " 1 or", " 0 and", " 1 + not isnull"}
+	for _, a := range rising() {
+		for _, b := range rising() {
+			if a.Kind != impl.VText && b.Kind != impl.VText {
+				continue
+			}
+			row := []impl.Val{a, b}
+			for _, op := range []string{" +", " -"} {
+				for _, rest := range around {
+					for _, both := range []string{"#0 #1", impl.ValText(a) + " #1", "#0 " + impl.ValText(b), impl.ValText(a) + " " + impl.ValText(b)} {
+						checkNone(t, both+op+rest, row)
+					}
+				}
+				checkNone(t, "1 #0 #1"+op+" or", row)
+				checkNone(t, "0 #0 #1"+op+" and", row)
+				checkNone(t, "null #0 #1"+op+" +", row)
+			}
+		}
+	}
+}
+
+func TestNullsAddedOrTakenOff(t *testing.T) {
+	row := []impl.Val{{}, num(3), num(-impl.MaxNum), num(impl.MaxNum)}
+	for _, s := range []string{
+		"null 3 +", "3 null +", "null 3 -", "3 null -", "null null +", "null null -",
+		"#0 #0 +", "#0 #0 -", "#0 #1 +", "#1 #0 -", "#2 #0 -", "#0 #2 -", "#3 #0 +", "#0 #3 +", "#0 3 + #0 -",
+	} {
+		checkEval(t, read(t, s), row, impl.Val{}, true)
+		if got := impl.Truth(read(t, s), row); got != impl.TruMaybe {
+			t.Errorf("Truth of %s is %d, want TruMaybe", s, got)
+		}
+	}
+}
+
+// checkNone wants no value and no truth of the expression whose text is s.
+func checkNone(t *testing.T, s string, row []impl.Val) {
+	t.Helper()
+	e := read(t, s)
+	checkEval(t, e, row, impl.Val{}, false)
+	if got := impl.Truth(e, row); got != -1 {
+		t.Errorf("Truth of %s is %d, want -1", s, got)
 	}
 }
 

@@ -1,6 +1,7 @@
 package tests
 
 import (
+	"cmp"
 	"reflect"
 	"slices"
 	"testing"
@@ -116,40 +117,147 @@ func cases2() []stage2 {
 	return []stage2{right, flaws, table, rows, cols, key, vals}
 }
 
-func TestArgumentsOfStage2StayAsTheyWere(t *testing.T) {
-	for i, c := range cases2() {
-		a := roomy(c)
-		kept := whole(a)
-		first := answers2(a)
-		if got := whole(a); !reflect.DeepEqual(got, kept) {
-			t.Errorf("case %d: an argument was written into", i)
+// stage3 has what the calls of chapters 6 and 7 are made with.
+type stage3 struct {
+	S     []impl.Table
+	Db    []impl.Data
+	Table int64
+	Id    int64
+	Vals  []impl.Val
+	Stmt  impl.Stmt
+}
+
+// answers3 asks all of chapters 6 and 7.
+func answers3(a stage3) []any {
+	var l []any
+	for _, replace := range []bool{false, true} {
+		put, id, putCode := impl.InsertRow(a.S, a.Db, a.Table, a.Vals, replace)
+		changed, code := impl.UpdateRow(a.S, a.Db, a.Table, a.Id, a.Vals, replace)
+		l = append(l, put, id, putCode, changed, code)
+	}
+	taken, code := impl.DeleteRow(a.S, a.Db, a.Table, a.Id)
+	ids, ok := impl.Matching(a.S, a.Db, a.Table, a.Stmt.Where)
+	db, execCode, done := impl.Exec(a.S, a.Db, a.Stmt)
+	return append(l, taken, code, ids, ok, impl.StmtOk(a.S, a.Stmt), db, execCode, done)
+}
+
+// cases3 has changes that are done, some that are refused at first or when something was done already, and some that are not right.
+func cases3(t *testing.T) []stage3 {
+	all := func(action int64) []impl.Table {
+		s := shop(action, action, false)
+		s[0].Cols[2].Default = text("z")
+		return s
+	}
+	var l []stage3
+	for _, action := range []int64{impl.FkRestrict, impl.FkCascade, impl.FkNull} {
+		for _, vals := range []string{"3 30 null", "1 30 'a'", "2 10 'b'", "3 null 'c'", "9 30 'c'", "3 30"} {
+			for _, policy := range policies {
+				l = append(l,
+					stage3{all(action), dbOf(shopDb), 0, 2, valsOf(vals), inserting(policy, "p", "7 70 'x'", "8 null null", "1 20 'y'")},
+					stage3{all(action), dbOf(shopDb), 0, 4, valsOf(vals), updating(t, policy, "p", "#0 9 <", "0=#0 1 +", "2='q'")},
+					stage3{all(action), dbOf(shopDb), 0, 2, valsOf(vals), deleting(t, policy, "p", "#0 1 = #2 isnull or")})
+			}
 		}
-		if again := answers2(a); !reflect.DeepEqual(again, first) {
-			t.Errorf("case %d: %v, then %v", i, first, again)
-		}
-		// What stands behind a list is not looked at.
-		if other := answers2(c); !reflect.DeepEqual(other, first) {
-			t.Errorf("case %d: %v without spare room, %v with it", i, other, first)
-		}
+	}
+	shared := l[0]
+	shared.Stmt.Rows = []impl.Row{{Vals: shared.Vals}, {Vals: shared.Vals}}
+	table, wrong, row, none := roomy(l[0]), roomy(l[1]), roomy(l[2]), roomy(l[2])
+	table.Table = 2
+	wrong.S[1].Fks[0].Cols[0] = 9
+	row.Db[1].Rows[2].Id = -5
+	none.Id, none.Stmt.Where = 3, []impl.Tok{constant(text("a"))}
+	return append(l, shared, table, wrong, row, none)
+}
+
+// checkArguments asks twice, with spare room behind all lists, and once without.
+func checkArguments[T any](t *testing.T, i int, c T, answers func(T) []any) {
+	t.Helper()
+	a := roomy(c)
+	kept := whole(a)
+	first := answers(a)
+	if got := whole(a); !reflect.DeepEqual(got, kept) {
+		t.Errorf("case %d: an argument was written into", i)
+	}
+	if again := answers(a); !reflect.DeepEqual(again, first) {
+		t.Errorf("case %d: %v, then %v", i, first, again)
+	}
+	// What stands behind a list is not looked at.
+	if other := answers(c); !reflect.DeepEqual(other, first) {
+		t.Errorf("case %d: %v without spare room, %v with it", i, other, first)
 	}
 }
 
-func TestAnswersOfStage2AreNewMemory(t *testing.T) {
+// checkAnswers writes over all that was answered, and looks for it elsewhere.
+func checkAnswers[T any](t *testing.T, i int, c T, answers func(T) []any) {
+	t.Helper()
+	a := roomy(c)
+	kept := whole(a)
+	first := answers(a)
+	for _, answer := range first {
+		v := reflect.ValueOf(answer)
+		if sharesMemory(listsOf(v)) {
+			t.Errorf("case %d: two lists of one answer share memory", i)
+		}
+		if v.Kind() == reflect.Slice {
+			spoil(v.Slice(0, v.Cap()))
+		}
+	}
+	if got := whole(a); !reflect.DeepEqual(got, kept) {
+		t.Errorf("case %d: an answer shares memory with an argument", i)
+	}
+	if again := answers(a); !reflect.DeepEqual(again, answers(c)) {
+		t.Errorf("case %d: an answer was kept", i)
+	}
+}
+
+// listsOf has all lists in v, itself among them.
+func listsOf(v reflect.Value) []reflect.Value {
+	var l []reflect.Value
+	switch v.Kind() {
+	case reflect.Slice:
+		l = append(l, v)
+		for i := range v.Len() {
+			l = append(l, listsOf(v.Index(i))...)
+		}
+	case reflect.Struct:
+		for i := range v.NumField() {
+			l = append(l, listsOf(v.Field(i))...)
+		}
+	}
+	return l
+}
+
+// sharesMemory counts the room behind a list as its own.
+func sharesMemory(lists []reflect.Value) bool {
+	slices.SortFunc(lists, func(a reflect.Value, b reflect.Value) int { return cmp.Compare(a.Pointer(), b.Pointer()) })
+	end := uintptr(0)
+	for _, v := range lists {
+		size := uintptr(v.Cap()) * v.Type().Elem().Size()
+		if size > 0 && v.Pointer() < end {
+			return true
+		}
+		if size > 0 {
+			end = v.Pointer() + size
+		}
+	}
+	return false
+}
+
+func TestListsOfArgumentsStayAsTheyWere(t *testing.T) {
 	for i, c := range cases2() {
-		a := roomy(c)
-		kept := whole(a)
-		first := answers2(a)
-		for _, answer := range first {
-			if v := reflect.ValueOf(answer); v.Kind() == reflect.Slice {
-				spoil(v.Slice(0, v.Cap()))
-			}
-		}
-		if got := whole(a); !reflect.DeepEqual(got, kept) {
-			t.Errorf("case %d: an answer shares memory with an argument", i)
-		}
-		if again := answers2(a); !reflect.DeepEqual(again, answers2(c)) {
-			t.Errorf("case %d: an answer was kept", i)
-		}
+		checkArguments(t, i, c, answers2)
+	}
+	for i, c := range cases3(t) {
+		checkArguments(t, i, c, answers3)
+	}
+}
+
+func TestListsOfAnswersAreNewMemory(t *testing.T) {
+	for i, c := range cases2() {
+		checkAnswers(t, i, c, answers2)
+	}
+	for i, c := range cases3(t) {
+		checkAnswers(t, i, c, answers3)
 	}
 }
 

@@ -169,6 +169,77 @@ func cases3(t *testing.T) []stage3 {
 	return append(l, shared, table, wrong, row, none)
 }
 
+// stage4 has what the calls of chapters 8 and 9 are made with.
+type stage4 struct {
+	Triggers []impl.Trigger
+	Table    int64
+	Event    int64
+	Old      []impl.Val
+	Now      []impl.Val
+	Session  impl.Session
+	Stmt     impl.Stmt
+	Name     string
+}
+
+// answers4 asks all of chapters 8 and 9.
+func answers4(a stage4) []any {
+	s := a.Session
+	db, code, done := impl.ExecFired(s.Schema, a.Triggers, s.Db, a.Stmt)
+	fresh, made := impl.SessionNew(s.Schema)
+	begun, begins := impl.Begin(s)
+	run, runCode, runDone := impl.Run(s, a.Stmt)
+	marked, marks := impl.Mark(s, a.Name)
+	back, goes := impl.Back(s, a.Name)
+	kept, keeps := impl.Keep(s, a.Name)
+	committed, commits := impl.Commit(s)
+	rolled, rolls := impl.Rollback(s)
+	return []any{
+		impl.TriggersOk(s.Schema, a.Triggers), impl.Fires(s.Schema, a.Triggers, a.Table, a.Event, a.Old, a.Now), db, code, done,
+		impl.SessionOk(s), fresh, made, begun, begins, run, runCode, runDone, marked, marks, back, goes, kept, keeps, committed, commits, rolled, rolls,
+	}
+}
+
+// cases4 has sessions that are open and such that are not, statements that are done, refused and rolled back, and some that are not right.
+func cases4(t *testing.T) []stage4 {
+	schema := shop(impl.FkCascade, impl.FkCascade, true)
+	schema[0].Cols[2].Default = text("z")
+	schema[1].Uniques = []impl.Unique{{Cols: []int64{0, 1}}}
+	const waits = "2 1 10 'a' / 1 5 1; 2 6 9"
+	closed := impl.Session{Schema: schema, Db: dbOf(shopDb)}
+	saves := []impl.Save{{Name: "a", Db: dbOf(waits)}, {Name: "b", Db: dbOf(shopDb)}, {Name: "a", Db: dbOf("/")}, {Name: "c", Db: dbOf(shopDb)}}
+	open := impl.Session{Schema: schema, Db: dbOf(waits), Open: true, Start: dbOf(shopDb), Saves: saves}
+	ready := impl.Session{Schema: schema, Db: dbOf(shopDb), Open: true, Start: dbOf(shopDb), Saves: saves[:1]}
+	triggers := []impl.Trigger{
+		trigger(t, "p", impl.EvInsert, "#3 8 <", "c", "#3 50 +", "#3"), trigger(t, "p", impl.EvInsert, "#3 5 <", "p", "#3 1 +", "#4 1 +", "#5"),
+		trigger(t, "p", impl.EvUpdate, "", "c", "#0 60 +", "null"), trigger(t, "c", impl.EvDelete, "#1 1 = not", "c", "#0", "#1"), trigger(t, "p", impl.EvDelete, "", "c", "#0 70 +", "#1"),
+	}
+	var l []stage4
+	for _, s := range []impl.Session{closed, open, ready} {
+		for _, policy := range policies {
+			for _, x := range []impl.Stmt{
+				inserting(policy, "p", "7 70 'x'", "8 null null", "3 20 'y'"), inserting(policy, "p", "3 30 'x'", "7 10 null"), updating(t, policy, "p", "#0 9 <", "0=#0 1 +", "2='q'"),
+				deleting(t, policy, "p", "#0 1 = #2 isnull or"), deleting(t, policy, "c", ""), inserting(policy, "c", "8 8", "5 1", "9 null"),
+			} {
+				l = append(l, stage4{triggers, 0, x.Kind, valsOf("1 10 'a'"), valsOf("2 10 'b'"), s, x, []string{"a", "b", "c", "d", "A"}[len(l)%5]})
+			}
+		}
+	}
+	// What the caller shares between lists is not shared by the answers.
+	shared := l[0]
+	shared.Session = ready
+	shared.Session.Start, shared.Session.Saves = shared.Session.Db, []impl.Save{{Name: "a", Db: shared.Session.Db}, {Name: "b", Db: shared.Session.Db}}
+	shared.Now = shared.Old
+	shared.Stmt.Rows = []impl.Row{shared.Stmt.Rows[0], shared.Stmt.Rows[0]}
+	table, form, start, save, schemas, row := roomy(l[0]), roomy(l[1]), roomy(l[30]), roomy(l[31]), roomy(l[32]), roomy(l[33])
+	table.Triggers[1].Into = "x"
+	form.Stmt.Kind = 9
+	start.Session.Start[1].Rows[0].Id = -5
+	save.Session.Saves[1].Name = ""
+	schemas.Session.Schema[1].Fks[0].Cols[0] = 9
+	row.Old = append(row.Old, num(1))
+	return append(l, shared, table, form, start, save, schemas, row)
+}
+
 // checkArguments asks twice, with spare room behind all lists, and once without.
 func checkArguments[T any](t *testing.T, i int, c T, answers func(T) []any) {
 	t.Helper()
@@ -178,13 +249,26 @@ func checkArguments[T any](t *testing.T, i int, c T, answers func(T) []any) {
 	if got := whole(a); !reflect.DeepEqual(got, kept) {
 		t.Errorf("case %d: an argument was written into", i)
 	}
-	if again := answers(a); !reflect.DeepEqual(again, first) {
+	if again := answers(a); !areSame(again, first) {
 		t.Errorf("case %d: %v, then %v", i, first, again)
 	}
 	// What stands behind a list is not looked at.
-	if other := answers(c); !reflect.DeepEqual(other, first) {
+	if other := answers(c); !areSame(other, first) {
 		t.Errorf("case %d: %v without spare room, %v with it", i, other, first)
 	}
+}
+
+// areSame takes an empty list and nil for the same.
+func areSame(a []any, b []any) bool {
+	if len(a) != len(b) {
+		return false
+	}
+	for i := range a {
+		if !reflect.DeepEqual(copied(reflect.ValueOf(a[i]), 0).Interface(), copied(reflect.ValueOf(b[i]), 0).Interface()) {
+			return false
+		}
+	}
+	return true
 }
 
 // checkAnswers writes over all that was answered, and looks for it elsewhere.
@@ -198,15 +282,25 @@ func checkAnswers[T any](t *testing.T, i int, c T, answers func(T) []any) {
 		if sharesMemory(listsOf(v)) {
 			t.Errorf("case %d: two lists of one answer share memory", i)
 		}
-		if v.Kind() == reflect.Slice {
-			spoil(v.Slice(0, v.Cap()))
-		}
+		spoilAnswer(v)
 	}
 	if got := whole(a); !reflect.DeepEqual(got, kept) {
 		t.Errorf("case %d: an answer shares memory with an argument", i)
 	}
-	if again := answers(a); !reflect.DeepEqual(again, answers(c)) {
+	if again := answers(a); !areSame(again, answers(c)) {
 		t.Errorf("case %d: an answer was kept", i)
+	}
+}
+
+// spoilAnswer writes over the lists of an answer, which is a list or has some.
+func spoilAnswer(v reflect.Value) {
+	switch v.Kind() {
+	case reflect.Slice:
+		spoil(v.Slice(0, v.Cap()))
+	case reflect.Struct:
+		for i := range v.NumField() {
+			spoilAnswer(v.Field(i))
+		}
 	}
 }
 
@@ -250,6 +344,9 @@ func TestListsOfArgumentsStayAsTheyWere(t *testing.T) {
 	for i, c := range cases3(t) {
 		checkArguments(t, i, c, answers3)
 	}
+	for i, c := range cases4(t) {
+		checkArguments(t, i, c, answers4)
+	}
 }
 
 func TestListsOfAnswersAreNewMemory(t *testing.T) {
@@ -258,6 +355,9 @@ func TestListsOfAnswersAreNewMemory(t *testing.T) {
 	}
 	for i, c := range cases3(t) {
 		checkAnswers(t, i, c, answers3)
+	}
+	for i, c := range cases4(t) {
+		checkAnswers(t, i, c, answers4)
 	}
 }
 

@@ -596,7 +596,10 @@ func TestDefaultsByPolicy(t *testing.T) {
 }
 
 // exec is chapter 7 told once more.
-func (m *model) exec(x impl.Stmt) (int64, int64) {
+func (m *model) exec(x impl.Stmt) (int64, int64) { return m.execFired(nil, x) }
+
+// execFired does with each row what it fires, too.
+func (m *model) execFired(l []impl.Trigger, x impl.Stmt) (int64, int64) {
 	table := int(impl.TableAt(m.s, x.Table))
 	turns := x.Rows
 	for _, r := range m.db[table].Rows {
@@ -618,7 +621,15 @@ func (m *model) exec(x impl.Stmt) (int64, int64) {
 		}
 		ahead := m.db
 		m.db = cloned(m.db)
+		id := turn.Id
+		if x.Kind == impl.StInsert {
+			id = m.nextId(table)
+		}
+		old := m.vals(table, id)
 		code := m.one(x, table, turn)
+		if code == impl.EcOk {
+			code = m.fire(l, table, x.Kind, old, m.vals(table, id), 0)
+		}
 		if code == impl.EcOk {
 			done++
 			continue

@@ -178,11 +178,23 @@ func (m *model) children(table int, old []impl.Val, now []impl.Val, gone bool, d
 	return impl.EcOk
 }
 
-func (m *model) insert(table int, given []impl.Val, replace bool) (int64, int64) {
-	id := int64(1)
+func (m *model) nextId(table int) int64 {
 	if n := len(m.db[table].Rows); n > 0 {
-		id = m.db[table].Rows[n-1].Id + 1
+		return m.db[table].Rows[n-1].Id + 1
 	}
+	return 1
+}
+
+// vals has none when there is no such row.
+func (m *model) vals(table int, id int64) []impl.Val {
+	if i := m.at(table, id); i >= 0 {
+		return m.db[table].Rows[i].Vals
+	}
+	return nil
+}
+
+func (m *model) insert(table int, given []impl.Val, replace bool) (int64, int64) {
+	id := m.nextId(table)
 	vals, code := m.ready(table, id, given, replace, 0)
 	if code != impl.EcOk {
 		return 0, code

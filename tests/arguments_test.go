@@ -240,6 +240,84 @@ func cases4(t *testing.T) []stage4 {
 	return append(l, shared, table, form, start, save, schemas, row)
 }
 
+// stage5 has what the calls of chapters 10 and 11 are made with.
+type stage5 struct {
+	S       []impl.Table
+	Db      []impl.Data
+	Select  impl.Select
+	A       int64
+	B       int64
+	On      []impl.Tok
+	Col     int64
+	Lines   []impl.Line
+	Cols    []int64
+	Entries []impl.Entry
+	Low     impl.Val
+	High    impl.Val
+	Entry   impl.Entry
+}
+
+// answers5 asks all of chapters 10 and 11.
+func answers5(a stage5) []any {
+	lines, selects := impl.RunSelect(a.S, a.Db, a.Select)
+	pairs, joins := impl.JoinOn(a.S, a.Db, a.A, a.B, a.On)
+	index, indexed := impl.IndexOf(a.S, a.Db, a.A, a.Cols)
+	with, put := impl.IndexPut(a.Entries, a.Entry)
+	without, dropped := impl.IndexDrop(a.Entries, a.Entry)
+	l := []any{
+		impl.SelectOk(a.S, a.Select), lines, selects, pairs, joins, impl.LinesText(a.Lines), index, indexed, impl.IndexOk(a.S, a.Db, a.A, a.Cols, a.Entries),
+		impl.Range(a.Entries, a.Low, a.High), with, put, without, dropped,
+	}
+	for how := range int64(6) {
+		for by := range int64(3) {
+			groups, ok := impl.Grouped(a.S, a.Db, a.A, by, a.Col, how)
+			l = append(l, groups, ok)
+		}
+	}
+	return l
+}
+
+// cases5 has queries and indexes with rows and without, such that are refused when something was told already, and some that are not right.
+func cases5(t *testing.T) []stage5 {
+	s, db := stall(), dbOf(stallDb)
+	lines := []impl.Line{{Vals: valsOf("1 'a' null")}, {}, {Vals: nulls(widest)}}
+	query := func(where string, by []int64, most int64, terms ...string) impl.Select {
+		return selecting(t, "p", where, by, most, terms...)
+	}
+	var l []stage5
+	for _, cols := range [][]int64{{0}, {1}, {2, 1}, {1, 2, 0}} {
+		index, _ := impl.IndexOf(s, db, 0, cols)
+		for i, e := range index {
+			other := impl.Entry{Key: slices.Clone(e.Key), Id: 77}
+			l = append(l,
+				stage5{s, db, query("", cols, int64(i), "#0", "#1"), 0, 1, read(t, "#0 #3 ="), 1, lines, cols, index, e.Key[0], text("b"), e},
+				stage5{s, db, query("#2 3 <", cols, 60, "#2 #0 +", "7"), 0, 0, read(t, "1"), 2, lines, cols, index, impl.Val{}, e.Key[0], other},
+				stage5{s, db, query("#0 3 <", cols, int64(i), "#1 1 +"), 0, 2, read(t, "#0"), 0, nil, cols, index[:i], impl.Val{}, text("b"), e},
+				stage5{s, db, query("#0 999999992 + 0 <", cols, 60, "#0"), 0, 1, read(t, "#0 #3 + 999999987 +"), 2, lines, cols, index[i:], e.Key[0], e.Key[0], e})
+		}
+	}
+	// What the caller shares between lists is not shared by the answers.
+	shared := roomy(l[0])
+	for i := range shared.Db[0].Rows {
+		shared.Db[0].Rows[i].Vals = shared.Db[0].Rows[0].Vals
+	}
+	for i := range shared.Entries {
+		shared.Entries[i] = impl.Entry{Key: shared.Entries[0].Key, Id: int64(i + 1)}
+	}
+	shared.Entry = impl.Entry{Key: shared.Entries[0].Key, Id: 70}
+	gone := shared
+	gone.Entry.Id, gone.Select.Most = 2, 60
+	table, rows, terms, on, cols, entries, one := roomy(l[0]), roomy(l[1]), roomy(l[2]), roomy(l[3]), roomy(l[4]), roomy(l[5]), roomy(l[6])
+	table.S[3].Key = nil
+	rows.Db[0].Rows[2].Id = -5
+	terms.Select.Terms = nil
+	on.On, on.A = append(on.On, col(9)), 7
+	cols.Cols, cols.Col, cols.Select.By = []int64{0, 0}, 3, []int64{1, 1}
+	entries.Entries[1].Key, entries.Lines = nil, append(entries.Lines, impl.Line{Vals: nulls(widest + 1)})
+	one.Entry.Id, one.Low = 0, impl.Val{Kind: 7}
+	return append(l, shared, gone, table, rows, terms, on, cols, entries, one)
+}
+
 // checkArguments asks twice, with spare room behind all lists, and once without.
 func checkArguments[T any](t *testing.T, i int, c T, answers func(T) []any) {
 	t.Helper()
@@ -347,6 +425,9 @@ func TestListsOfArgumentsStayAsTheyWere(t *testing.T) {
 	for i, c := range cases4(t) {
 		checkArguments(t, i, c, answers4)
 	}
+	for i, c := range cases5(t) {
+		checkArguments(t, i, c, answers5)
+	}
 }
 
 func TestListsOfAnswersAreNewMemory(t *testing.T) {
@@ -358,6 +439,9 @@ func TestListsOfAnswersAreNewMemory(t *testing.T) {
 	}
 	for i, c := range cases4(t) {
 		checkAnswers(t, i, c, answers4)
+	}
+	for i, c := range cases5(t) {
+		checkAnswers(t, i, c, answers5)
 	}
 }
 

@@ -318,6 +318,65 @@ func cases5(t *testing.T) []stage5 {
 	return append(l, shared, gone, table, rows, terms, on, cols, entries, one)
 }
 
+// stage6 has what the calls of chapters 12 and 13 are made with.
+type stage6 struct {
+	S       []impl.Table
+	Db      []impl.Data
+	Other   []impl.Data
+	Vals    []impl.Val
+	Stmt    impl.Stmt
+	Changes []impl.Change
+	Record  string
+	DbLines string
+	Words   string
+}
+
+// answers6 asks all of chapters 12 and 13.
+func answers6(a stage6) []any {
+	vals, recordRead := impl.ReadRecord(a.Record)
+	db, dbRead := impl.ReadDb(a.S, a.DbLines)
+	x, stmtRead := impl.ReadStmt(a.Words)
+	diff, told := impl.DiffOf(a.S, a.Db, a.Other)
+	applied, made := impl.Applied(a.S, a.Db, a.Changes)
+	return []any{
+		impl.RecordText(a.Vals), vals, recordRead, impl.DbText(a.S, a.Db), db, dbRead, impl.StmtText(a.Stmt), x, stmtRead,
+		diff, told, applied, made, impl.Inverse(a.Changes),
+	}
+}
+
+// cases6 has texts that are read and such that are given up at once, in the middle and at the end; changes that can be made and such that can not; and some that are not right.
+func cases6(t *testing.T) []stage6 {
+	s, db, other := stall(), dbOf(stallDb), dbOf("1 4 'b' 7; 3 2 'b' null; 4 2 'b' 5; 8 9 null -3 / 1 2; 2 5; 9 9 / 1 1 /")
+	changes := []impl.Change{changed(0, 2, "3 'a' null", "3 'a' 1"), changed(1, 8, "", "7"), changed(1, 1, "2", ""), changed(1, 8, "7", "6"), changed(0, 10, "", "1 null null")}
+	var l []stage6
+	for i, x := range append(rightStmts(t), updating(t, impl.PoFail, "p", "", "0=1", "1=#0 #1 <", "7='a'"), inserting(impl.PoIgnore, "q", "", "1 2 3", "'a'"), impl.Stmt{}) {
+		record, lines, words := recordOf(rising()[i:i+widest-i]), dbLines(s, db), stmtWords(x)
+		l = append(l,
+			stage6{s, db, other, rising()[i : i+3], x, changes, record, lines, words},
+			stage6{s, other, db, nil, x, changes[1:2], record + ",1", lines + "x", words + " x"},
+			stage6{s, db, db, wrongVals()[i : i+1], x, changes[:i], record[:len(record)-1], lines[:len(lines)-1], words[:len(words)-1]},
+			stage6{s, db, make([]impl.Data, 4), nulls(i), x, append(slices.Clone(changes), changes...), "0", lines[:len(lines)/2], words[len(words)/2:]})
+	}
+	// What the caller shares between lists is not shared by the answers.
+	shared := roomy(l[0])
+	shared.Vals, shared.Other[0].Rows, shared.Changes = valsOf("1 'a' null"), nil, nil
+	for i := range shared.Db[0].Rows {
+		shared.Db[0].Rows[i].Vals = shared.Vals
+		shared.Changes = append(shared.Changes, impl.Change{Id: int64(20 + i), Now: shared.Vals})
+	}
+	round := shared
+	round.Changes = []impl.Change{{Id: 1, Old: shared.Vals}, {Id: 1, Now: shared.Vals}, {Id: 1, Old: shared.Vals, Now: valsOf("2 'a' null")}}
+	alike := shared
+	alike.Changes = []impl.Change{{Id: 1, Old: shared.Vals, Now: shared.Vals}}
+	table, rows, behind, move, stmt := roomy(l[0]), roomy(l[0]), roomy(l[0]), roomy(l[0]), roomy(l[0])
+	table.S[3].Key = nil
+	rows.Db[0].Rows[2].Id = -5
+	behind.Other[1].Rows[0].Vals = nil
+	move.Changes[4].Table = 7
+	stmt.Stmt.Rows[1].Id = 3
+	return append(l, shared, round, alike, table, rows, behind, move, stmt)
+}
+
 // checkArguments asks twice, with spare room behind all lists, and once without.
 func checkArguments[T any](t *testing.T, i int, c T, answers func(T) []any) {
 	t.Helper()
@@ -428,6 +487,9 @@ func TestListsOfArgumentsStayAsTheyWere(t *testing.T) {
 	for i, c := range cases5(t) {
 		checkArguments(t, i, c, answers5)
 	}
+	for i, c := range cases6(t) {
+		checkArguments(t, i, c, answers6)
+	}
 }
 
 func TestListsOfAnswersAreNewMemory(t *testing.T) {
@@ -442,6 +504,9 @@ func TestListsOfAnswersAreNewMemory(t *testing.T) {
 	}
 	for i, c := range cases5(t) {
 		checkAnswers(t, i, c, answers5)
+	}
+	for i, c := range cases6(t) {
+		checkAnswers(t, i, c, answers6)
 	}
 }
 

@@ -377,6 +377,71 @@ func cases6(t *testing.T) []stage6 {
 	return append(l, shared, round, alike, table, rows, behind, move, stmt)
 }
 
+// stage7 has what the calls of chapters 14 and 15 are made with.
+type stage7 struct {
+	S    []impl.Table
+	Disk impl.Disk
+	Op   impl.DOp
+	Keep []int64
+	Torn int64
+	Name string
+	Data string
+	Acts []impl.Act
+}
+
+// answers7 asks all of chapters 14 and 15.
+func answers7(a stage7) []any {
+	done, doCode := impl.Do(a.Disk, a.Op)
+	left, ok := impl.Crash(a.Disk, a.Keep, a.Torn)
+	data, there := impl.ReadFile(a.Disk, a.Name)
+	replaced, code := impl.Replace(a.Disk, a.Name, a.Data)
+	frames, end := impl.TakeFrames(impl.FrameOf(a.Data) + data)
+	db, seen := impl.StoreView(a.S, a.Disk)
+	played, codes := impl.StorePlay(a.S, a.Disk, a.Acts)
+	l := []any{impl.DiskOk(a.Disk), done, doCode, impl.Sync(a.Disk), left, ok, data, there, replaced, code, frames, end, db, seen, played, codes}
+	for _, x := range a.Acts {
+		acted, code := impl.StoreDo(a.S, a.Disk, x)
+		l = append(l, acted, code)
+	}
+	return l
+}
+
+// cases7 has disks with a store and without, ops and acts that are done, refused and ended for want of power, and some that are not right.
+func cases7(t *testing.T) []stage7 {
+	s := bank()
+	acts := []impl.Act{
+		running(inserting(impl.PoAbort, "p", "7", "8"), true), running(updating(t, impl.PoReplace, "c", "#0 9 <", "1=null"), false), running(putting(1), true), running(inserting(0, "c", "2 9"), true), act(impl.AcSave), withPower(act(impl.AcSave), 3), act(impl.AcOpen), withPower(act(impl.AcOpen), 2),
+		crashing("0", 3), crashing("0 1", 99), crashing("1 1", 0), withPower(crashing("", 0), 1), act(impl.AcNew), act(9),
+	}
+	more := []impl.DOp{appends("log", framed(entryOf(4, putting(5)))), appends("base.new", "x")}
+	right := bankDisk(t, 3, bankDb)
+	last := append(slices.Clone(right.Live[:1]), impl.File{Name: "log", Data: logOf(entryOf(4, putting(5)), entryOf(5, deleting(t, impl.PoAbort, "c", "")))})
+	most := slices.Repeat(opsOf("a+"), impl.MaxOps)
+	disks := []impl.Disk{
+		right, diskWith(t, right.Live, more), diskWith(t, last, more[1:]), diskWith(t, last, opsOf("log+x a+1 a>base.new")), {}, diskOf(t, "a:1 log:x", "b+2 b>c -a"), diskWith(t, right.Live, most), diskWith(t, manyFiles(impl.MaxFiles, 1), nil), diskOf(t, "base:x", "base+y"),
+		bankDisk(t, impl.MaxNum, bankDb), diskWith(t, right.Live, append(opsOf("-base"), appends("base", "x"))),
+	}
+	var l []stage7
+	for i, d := range append(disks, wrongDisks(t)...) {
+		for k, op := range []impl.DOp{appends("a", "x"), appends("log", ""), renames("base", "a"), renames("log", "log"), removes("base"), removes("z"), {Kind: impl.DkRemove, Name: "a", Data: "x"}, appends("a", bytesOf(impl.MaxBytes))} {
+			keep := placesOf([]string{"", "0", "1", "0 1", "0 1 2", "1 0", "0 2", "-1"}[k])
+			name := []string{"a", "base", "log", "base.new", "", "z", "f00", bytesOf(97)}[(i+k)%8]
+			l = append(l, stage7{s, d, op, keep, int64(k - 1), name, bytesOf(k * k * k * k * 50), append(slices.Clone(acts[k:]), acts[:k]...)})
+		}
+	}
+	// What the caller shares between lists is not shared by the answers.
+	shared := l[8]
+	shared.Disk.Safe = shared.Disk.Live
+	shared.Disk.Ops = opsOf("log>log a+ -a")
+	shared.Disk.Ops = append(shared.Disk.Ops, shared.Disk.Ops...)
+	shared.Acts = []impl.Act{{Kind: impl.AcCrash, Keep: shared.Keep, Power: -1}, {Kind: impl.AcCrash, Keep: shared.Keep, Power: -1}}
+	idle := l[8]
+	idle.Acts = nil
+	schema := roomy(l[8])
+	schema.S[1].Key = nil
+	return append(l, shared, idle, schema)
+}
+
 // checkArguments asks twice, with spare room behind all lists, and once without.
 func checkArguments[T any](t *testing.T, i int, c T, answers func(T) []any) {
 	t.Helper()
@@ -424,7 +489,14 @@ func checkAnswers[T any](t *testing.T, i int, c T, answers func(T) []any) {
 	if got := whole(a); !reflect.DeepEqual(got, kept) {
 		t.Errorf("case %d: an answer shares memory with an argument", i)
 	}
-	if again := answers(a); !areSame(again, answers(c)) {
+	// The copy above has no list twice, but the caller may.
+	as := answers(c)
+	for _, answer := range as {
+		if sharesMemory(listsOf(reflect.ValueOf(answer))) {
+			t.Errorf("case %d: two lists of one answer share memory that the caller shares", i)
+		}
+	}
+	if again := answers(a); !areSame(again, as) {
 		t.Errorf("case %d: an answer was kept", i)
 	}
 }
@@ -490,6 +562,9 @@ func TestListsOfArgumentsStayAsTheyWere(t *testing.T) {
 	for i, c := range cases6(t) {
 		checkArguments(t, i, c, answers6)
 	}
+	for i, c := range cases7(t) {
+		checkArguments(t, i, c, answers7)
+	}
 }
 
 func TestListsOfAnswersAreNewMemory(t *testing.T) {
@@ -507,6 +582,9 @@ func TestListsOfAnswersAreNewMemory(t *testing.T) {
 	}
 	for i, c := range cases6(t) {
 		checkAnswers(t, i, c, answers6)
+	}
+	for i, c := range cases7(t) {
+		checkAnswers(t, i, c, answers7)
 	}
 }
 

@@ -4,6 +4,7 @@ import (
 	"cmp"
 	"reflect"
 	"slices"
+	"strings"
 	"testing"
 
 	"loop.example/g00570/impl"
@@ -442,6 +443,35 @@ func cases7(t *testing.T) []stage7 {
 	return append(l, shared, idle, schema)
 }
 
+// stage8 has what the call of chapter 16 is made with.
+type stage8 struct {
+	S    []impl.Table
+	Text string
+}
+
+// answers8 asks chapter 16.
+func answers8(a stage8) []any { return []any{impl.RunScript(a.S, a.Text)} }
+
+// cases8 has scripts that change much and such that change nothing, of schemas that are right and not.
+func cases8() []stage8 {
+	wrong, shared := desk(), desk()
+	wrong[3].Fks[1].Cols[0] = 9
+	// What the caller shares between lists is not changed by what one of them is used for.
+	shared[2].Cols, shared[1].Key, shared[2].Key, shared[3].Key = shared[1].Cols, shared[0].Key, shared[0].Key, shared[0].Key
+	texts := []string{
+		linesOf(deskLines()...),
+		linesOf(append(deskLines(), "begin", "mark a", "delete fail e where #0 7 <", "update replace p set 2 #2 1 + where ", "insert ignore r 3,1,7,7", "flaws", "back a", "update rollback p set 0 'x' where ", "show p", "show e")...),
+		linesOf("begin", "insert abort r 3,1,7,null", "commit", "flaws", "rollback", "show r", "x"), "", "\n", "begin", strings.Repeat("\n", impl.MaxScript+1),
+	}
+	var l []stage8
+	for _, s := range [][]impl.Table{desk(), town(), shared, wrong, {{}}, nil} {
+		for _, text := range texts {
+			l = append(l, stage8{s, text})
+		}
+	}
+	return l
+}
+
 // checkArguments asks twice, with spare room behind all lists, and once without.
 func checkArguments[T any](t *testing.T, i int, c T, answers func(T) []any) {
 	t.Helper()
@@ -565,6 +595,9 @@ func TestListsOfArgumentsStayAsTheyWere(t *testing.T) {
 	for i, c := range cases7(t) {
 		checkArguments(t, i, c, answers7)
 	}
+	for i, c := range cases8() {
+		checkArguments(t, i, c, answers8)
+	}
 }
 
 func TestListsOfAnswersAreNewMemory(t *testing.T) {
@@ -585,6 +618,9 @@ func TestListsOfAnswersAreNewMemory(t *testing.T) {
 	}
 	for i, c := range cases7(t) {
 		checkAnswers(t, i, c, answers7)
+	}
+	for i, c := range cases8() {
+		checkAnswers(t, i, c, answers8)
 	}
 }
 
